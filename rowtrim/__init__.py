@@ -1,0 +1,1 @@
+"""Rowtrim: rowers seated by side and weight."""
