@@ -3,7 +3,9 @@
 import unittest
 from copy import deepcopy
 
-from rowtrim.errors import TooMany
+from rowtrim.errors import NoCrew, NoTrial, TooMany
+from rowtrim.evened import evened
+from rowtrim.pieces import is_piece, margin, trial_of
 from rowtrim.rowers import are_rowers, arm_of, is_rig, is_rower, is_seating, trim_of
 from rowtrim.seatings import how_many, reseated, seated, seatings
 from tests.helper import EIGHT, FOUR, PAIR, THINGS
@@ -11,6 +13,8 @@ from tests.helper import EIGHT, FOUR, PAIR, THINGS
 CREW = [("dee", "port", 75), ("ann", "port", 70), ("eve", "both", 50), ("bob", "starboard", 80), ("cy", "both", 60)]
 SEATING = ("ann", "bob", "dee", "cy")
 ABSENT = ["eve", "zoe", "bob", "ann"]
+PIECE = (("ann", "cy"), ("bob", "dee"), 100, 104, 500)
+AGAIN = (("bob", "cy"), ("ann", "dee"), 102, 100, 500)
 
 # What stands here is never handed in itself, but as a copy: else the first call could hide what the next ones do.
 CALLS = [
@@ -21,6 +25,9 @@ CALLS = [
     (seated, (CREW, FOUR)), (seated, (CREW, FOUR, 0)), (seated, (CREW, FOUR, 500)), (seated, (CREW[:1], FOUR, 5)),
     (reseated, (CREW, FOUR, SEATING, [])), (reseated, (CREW, FOUR, SEATING, ABSENT)),
     (reseated, (CREW, FOUR, SEATING, ["dee"])),
+    (evened, (CREW[:2],)), (evened, (CREW[:4],)), (evened, (CREW[1:],)),
+    (is_piece, (PIECE,)), (is_piece, (list(PIECE),)), (is_piece, ((["bob", "ann"], ["dee", "cy"], 1, 2, 3),)),
+    (margin, (PIECE,)), (margin, (AGAIN,)), (trial_of, (PIECE, AGAIN)), (trial_of, (AGAIN, PIECE)),
 ]
 
 
@@ -38,12 +45,34 @@ class Kept(unittest.TestCase):
         with self.assertRaises(TooMany):
             seatings(crew, EIGHT)
         self.assertEqual(crew, before)
+        odd = list(CREW)
+        with self.assertRaises(NoCrew):
+            evened(odd)
+        self.assertEqual(odd, CREW)
+        one, other = deepcopy(PIECE), deepcopy(PIECE)
+        with self.assertRaises(NoTrial):
+            trial_of(one, other)
+        self.assertEqual((one, other), (PIECE, PIECE))
 
     def test_nor_anything(self):
         for thing in THINGS:
             copy = deepcopy(thing)
-            is_rower(copy), are_rowers(copy), is_rig(copy), is_seating(list(CREW), FOUR, copy)
+            is_rower(copy), are_rowers(copy), is_rig(copy), is_seating(list(CREW), FOUR, copy), is_piece(copy)
             self.assertEqual(copy, thing)
+
+    def test_nor_anything_as_a_part_of_a_piece(self):
+        for thing in THINGS:
+            for at in range(5):
+                handed = [PIECE[:at] + (deepcopy(thing),) + PIECE[at + 1:] for turn in range(2)]
+                is_piece(handed[0])
+                self.assertEqual(handed[0], handed[1])
+
+    def test_refused_once_refused_again(self):
+        for call, handed, refusal in ((evened, (CREW,), NoCrew), (trial_of, (PIECE, PIECE), NoTrial)):
+            copy = deepcopy(handed)
+            for turn in range(2):
+                with self.assertRaises(refusal):
+                    call(*copy)
 
     def test_asked_again_the_answer_is_the_same(self):
         for call, handed in CALLS:
@@ -69,6 +98,12 @@ class Kept(unittest.TestCase):
         self.assertNotEqual(seatings(crew, FOUR), first)
         crew.insert(0, CREW[2])
         self.assertEqual(seatings(crew, FOUR), first)
+        even = CREW[:4]
+        told = evened(even)
+        even[0] = ("dee", "port", 175)
+        self.assertNotEqual(evened(even), told)
+        even[0] = CREW[0]
+        self.assertEqual(evened(even), told)
 
     def test_by_their_places(self):
         self.assertEqual(seated(list(CREW), FOUR, 7), seated(rowers=list(CREW), rig=FOUR, most=7))
