@@ -53,3 +53,54 @@ def drawn_cases():
         rowers = drawn_rowers(seed, draw.randint(1, 7), draw.choice([3, 9, 120, 10 ** 6]))
         cases.append((rowers, rig))
     return cases
+
+
+def drawn_trials(many, names="abcdefg", most=9, seed=0):
+    """Lists of trials, the same each time, with about as many by nought as by more."""
+    drawn = []
+    for turn in range(many):
+        draw = Random(seed * 1000 + turn)
+        bys = draw.choice([[(0, 1), (1, 1)], [(0, 1), (0, 1), (1, 3), (5, 2)], [(1, 2), (2, 3), (1, 6), (3, 1)]])
+        trials = [tuple(draw.sample(names, 2)) + (draw.choice(bys),) for at in range(draw.randint(0, most))]
+        drawn.append(trials)
+    return drawn
+
+
+def plain_verdict(trials, one, other):
+    """What trials tell of two names, from all pairs that are joined until no pair more can be."""
+    level = set()
+    above = set()
+    for more, less, by in trials:
+        if by == (0, 1):
+            level |= {(more, less), (less, more)}
+        else:
+            above.add((more, less))
+    while True:
+        # A pair (p, q) and one (q, r) make one (p, r), which is level where both are, and else above.
+        levels = {(p, r) for p, q in level for middle, r in level if q == middle}
+        mixed = {(p, r) for p, q in above for middle, r in above | level if q == middle}
+        mixed |= {(p, r) for p, q in level for middle, r in above if q == middle}
+        if levels <= level and mixed <= above:
+            break
+        level |= levels
+        above |= mixed
+    up, down = (one, other) in above, (other, one) in above
+    if up or down:
+        return "ring" if up and down else "more" if up else "less"
+    return "alike" if (one, other) in level else "open"
+
+
+def plain_ring(trials, numbers):
+    """Whether the numbers are a ring, from all ways in which their trials could be led along."""
+    if not all(number in range(len(trials)) for number in numbers):
+        return False
+    chosen = [trials[number] for number in numbers]
+    if all(by == (0, 1) for more, less, by in chosen):
+        return False
+    choices = [[(more, less)] + [(less, more)] * (by == (0, 1)) for more, less, by in chosen]
+    for steps in product(*choices):
+        starts = [start for start, end in steps]
+        ends = [end for start, end in steps]
+        if starts[1:] + starts[:1] == ends and len(set(starts)) == len(starts):
+            return True
+    return False
