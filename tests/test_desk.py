@@ -172,16 +172,16 @@ class NoRows(Case):
 
     def test_blanks(self):
         for row in ROWS:
-            self.no_row(" " + row, row + " ", "  " + row, row + "  ", row.replace(" ", "  ", 1) + " " * (" " not in row))
-            if row.count(" ") > 1:
-                before, behind = row.rsplit(" ", 1)
-                self.no_row(f"{before}  {behind}")
+            self.no_row(" " + row, row + " ", "  " + row, row + "  ")
+            words = row.split(" ")
+            for at in range(1, len(words)):
+                self.no_row(" ".join(words[:at]) + "  " + " ".join(words[at:]))
 
     def test_line_ends_and_tabs(self):
         for row in ROWS:
-            self.no_row("\n" + row, row + "\n", row.replace(" ", "\n", 1) + "\n" * (" " not in row))
+            self.no_row("\n" + row, row + "\n")
             if " " in row:
-                self.no_row(row.replace(" ", "\t"), row.replace(" ", " \n", 1))
+                self.no_row(row.replace(" ", "\n", 1), row.replace(" ", "\t"), row.replace(" ", " \n", 1))
 
     def test_an_unknown_word(self):
         self.no_row("ok", "none", "comes ann:port:70", "com ann:port:70", "pieces a b 1 1 1", "rowers", "help", "~")

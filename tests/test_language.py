@@ -126,7 +126,8 @@ class Language(unittest.TestCase):
                 if isinstance(node, ast.ImportFrom):
                     taken += [alias.asname or alias.name for alias in node.names]
             local = [node.arg for node in ast.walk(tree) if isinstance(node, ast.arg)]
-            local += [node.id for node in ast.walk(tree) if isinstance(node, ast.Name) and isinstance(node.ctx, ast.Store)]
+            names = [node for node in ast.walk(tree) if isinstance(node, ast.Name)]
+            local += [node.id for node in names if isinstance(node.ctx, ast.Store)]
             self.assertEqual(set(local) & set(taken), set(), path)
 
     def test_is_stands_beside_none_true_and_false_alone(self):
